@@ -47,6 +47,9 @@ func TestBook(t *testing.T) { // P1903
 			t.Error(c)
 		}
 	}
+	if edge := New(); !edge.Ask(255, 255) || !edge.Ask(0, 0) || len(edge.Open()) != 2 {
+		t.Error("edges")
+	}
 	for i := range int64(16) {
 		if !k.Ask(i/2, 0) {
 			t.Error(i)

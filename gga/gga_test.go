@@ -24,6 +24,10 @@ func TestPut(t *testing.T) { // P2502
 	if l, err := Put(api.Gga{}); err != 0 || strings.Join(l, ",") != ",,,,,0,,,,,,,," || len(l) != 14 {
 		t.Error(l, err)
 	}
+	small := api.Gga{Sats: num(5), Hdop: num(5), Alt: num(-5), Geoid: num(5), Age: num(5), At: num(5)}
+	if l, err := Put(small); err != 0 || strings.Join(l, ",") != ",,,,,0,5,0.05,-0.5,M,0.5,M,0.5,5" {
+		t.Error(l, err)
+	}
 	for i, spoil := range []func(g *api.Gga){
 		func(g *api.Gga) { g.Time.Hour = 24 }, func(g *api.Gga) { g.Lat.N = 540000001 }, func(g *api.Gga) { g.Lon.N = -1080000001 }, func(g *api.Gga) { g.Quality = 9 }, func(g *api.Gga) { g.Quality = -1 }, func(g *api.Gga) { g.Sats.N = 100 }, func(g *api.Gga) { g.Sats.N = -1 },
 		func(g *api.Gga) { g.Hdop.N = 100000 }, func(g *api.Gga) { g.Alt.N = 10000000 }, func(g *api.Gga) { g.Alt.N = -10000000 }, func(g *api.Gga) { g.Geoid.N = 100000 }, func(g *api.Gga) { g.Geoid.N = -100000 }, func(g *api.Gga) { g.Age.N = 100000 }, func(g *api.Gga) { g.Age.N = -1 }, func(g *api.Gga) { g.At.N = 1024 },
@@ -54,7 +58,7 @@ func TestTake(t *testing.T) { // P2503
 	}{
 		{0, "1235", api.ErrForm}, {0, "246060", api.ErrRange}, {1, "", api.ErrForm}, {1, "4860", api.ErrRange}, {2, "E", api.ErrForm}, {2, "", api.ErrForm}, {3, "x", api.ErrForm}, {4, "N", api.ErrForm}, {3, "18100", api.ErrRange},
 		{5, "", api.ErrForm}, {5, "9", api.ErrRange}, {5, "10", api.ErrForm}, {5, "a", api.ErrForm}, {5, "-1", api.ErrForm}, {6, "100", api.ErrForm}, {6, "-1", api.ErrRange}, {6, "1.", api.ErrForm}, {7, "1000", api.ErrForm}, {7, "-1", api.ErrRange},
-		{8, "1.23", api.ErrForm}, {9, "m", api.ErrForm}, {9, "", api.ErrForm}, {9, "F", api.ErrForm}, {11, "", api.ErrForm}, {11, "MM", api.ErrForm}, {10, "10000", api.ErrForm}, {12, "-1", api.ErrRange}, {13, "1024", api.ErrRange}, {13, "12345", api.ErrForm},
+		{8, "1.23", api.ErrForm}, {8, "1234567", api.ErrForm}, {6, "123", api.ErrForm}, {7, "1.234", api.ErrForm}, {10, "12345", api.ErrForm}, {10, "1.23", api.ErrForm}, {12, "12345", api.ErrForm}, {12, "1.23", api.ErrForm}, {13, "1.0", api.ErrForm}, {9, "m", api.ErrForm}, {9, "", api.ErrForm}, {9, "F", api.ErrForm}, {11, "", api.ErrForm}, {11, "MM", api.ErrForm}, {10, "10000", api.ErrForm}, {12, "-1", api.ErrRange}, {13, "1024", api.ErrRange}, {13, "12345", api.ErrForm},
 	} {
 		l := cut(text)
 		l[c.at] = c.s

@@ -32,6 +32,9 @@ func TestPut(t *testing.T) { // P2702
 	if l, err := Put(api.Gsa{Fix: 2, Ids: twelve}); err != 0 || strings.Join(l, ",") != "M,2,1,2,3,4,5,6,7,8,9,10,11,12,,," {
 		t.Error(l, err)
 	}
+	if l, err := Put(api.Gsa{Fix: 1, Pdop: num(5), Vdop: num(99999)}); err != 0 || l[14] != "0.05" || l[16] != "999.99" {
+		t.Error(l, err)
+	}
 	for i, c := range []struct {
 		m    api.Gsa
 		want api.Errno

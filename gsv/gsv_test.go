@@ -52,7 +52,7 @@ func TestTake(t *testing.T) { // P2903
 		want api.Errno
 	}{
 		{0, "", api.ErrForm}, {0, "x", api.ErrForm}, {0, "02", api.ErrForm}, {0, "0", api.ErrRange}, {1, "", api.ErrForm}, {1, "01", api.ErrForm}, {1, "0", api.ErrRange}, {1, "3", api.ErrRange}, {2, "", api.ErrForm}, {2, "-1", api.ErrRange}, {2, "100", api.ErrForm}, {2, "1.0", api.ErrForm},
-		{3, "0", api.ErrRange}, {3, "256", api.ErrRange}, {4, "91", api.ErrRange}, {5, "360", api.ErrRange}, {6, "x", api.ErrForm}, {13, "400", api.ErrRange}, {14, "100", api.ErrForm},
+		{3, "0", api.ErrRange}, {3, "256", api.ErrRange}, {4, "91", api.ErrRange}, {5, "360", api.ErrRange}, {6, "x", api.ErrForm}, {13, "400", api.ErrRange}, {14, "100", api.ErrForm}, {3, "1000", api.ErrForm}, {4, "100", api.ErrForm}, {5, "1000", api.ErrForm}, {6, "100", api.ErrForm}, {6, "1.0", api.ErrForm},
 	} {
 		l := cut(text)
 		l[c.at] = c.s
@@ -149,7 +149,7 @@ func TestBook(t *testing.T) { // P2904
 	waits(0, 0)
 	add(part(3, 3, 3), false)
 	waits(0, 0)
-	for i, wrong := range []api.Gsv{part(3, 3), part(4, 2), part(3, 0), part(0, 0), part(10, 2), part(3, 4), part(-1, -1), part(3, 2, 1, 2, 3, 4, 5), part(1<<40, 2)} {
+	for i, wrong := range []api.Gsv{part(3, 3), part(4, 2), part(3, 0), part(0, 0), part(10, 2), part(3, 4), part(-1, -1), part(3, 2, 1, 2, 3, 4, 5), part(1<<40, 2), part(10, 1), part(0, 1), part(-1, 1), part(2, 1, 1, 2, 3, 4, 5), part(1, 1, 1, 2, 3, 4, 5)} {
 		add(part(3, 1, 7), false)
 		add(wrong, false)
 		waits(0, 0)

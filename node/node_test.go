@@ -173,7 +173,10 @@ func TestTick(t *testing.T) { // P4403, streams 0 and 1
 	if l := n.Do(tick(5)); len(l) != 0 || n.Now() != latest {
 		t.Error(l)
 	}
-	n.timers.Set(1, 1<<33+5, 0)
+	if n.Now() != 1<<40 {
+		t.Error(n.Now())
+	}
+	n.timers.Set(1, 1<<32+5, 0)
 	says(t, sent(t, n.Do(tick(0)))[0], 200, 5, 537395712, 0, 0, 0)
 	refused(t, n.Do(api.Step{Kind: 5}), api.ErrKind)
 	refused(t, n.Do(api.Step{Kind: -1}), api.ErrKind)
@@ -419,6 +422,9 @@ func TestLog(t *testing.T) { // P4403, P4405, P4409
 	refused(t, n.Do(logs(-1)), api.ErrNone)
 	refused(t, n.Do(logs(-2)), api.ErrRange)
 	refused(t, n.Do(logs(256)), api.ErrRange)
+	if len(n.Do(logs(255))) != 0 || len(n.Do(logs(0))) != 0 {
+		t.Error("of every 255")
+	}
 	if len(n.Do(logs(1))) != 0 || len(n.Do(logs(-1))) != 0 {
 		t.Error("an empty block")
 	}
@@ -460,6 +466,16 @@ func TestLog(t *testing.T) { // P4403, P4405, P4409
 	}
 	if b, err := block.Take(bytesOf[:256]); err != 0 || len(b.L) != 4 {
 		t.Error(b, err)
+	}
+	// Counts that have no room are bound.
+	far := New(1, 1)
+	far.Do(logs(1))
+	far.filter.Steps, far.filter.Cuts = 1<<31-2, 1<<40
+	for i := range int64(3) {
+		far.Do(feed(imu(t, i, 0, 0, 1000, 0, 0, 0)))
+	}
+	if l, _ := rescue.Read(far.Do(logs(-1))[0].B); len(l) != 2 || l[0].V[10] != 1<<31-1 || l[1].V[10] != 1<<31-1 || l[1].V[11] != 1<<31-1 {
+		t.Error(l)
 	}
 	// A new log counts anew; the old one's block is logged as its own.
 	n.Do(feed(imu(t, 700, 5, 6, 1000, 0, 0, 0)))

@@ -122,6 +122,9 @@ func TestScan(t *testing.T) { // P3703, P3706
 	if l := Scan(crc.Seal(wrong)); len(l) != 0 {
 		t.Error("sealed, but no block", l)
 	}
+	if l := Scan(inner); len(l) != 1 || l[0].At != 0 {
+		t.Error("at the end", l)
+	}
 	if len(Scan(nil)) != 0 || len(Scan(inner[:255])) != 0 {
 		t.Error("short")
 	}

@@ -25,6 +25,9 @@ func TestPut(t *testing.T) { // P2602
 	if l, err := Put(api.Rmc{}); err != 0 || strings.Join(l, ",") != ",V,,,,,,,,," || len(l) != 11 {
 		t.Error(l, err)
 	}
+	if l, err := Put(api.Rmc{Speed: num(5), Course: num(5), Var: num(5)}); err != 0 || strings.Join(l, ",") != ",V,,,,,0.05,0.05,,0.5,E" {
+		t.Error(l, err)
+	}
 	for v, want := range map[int64][2]string{0: {"0", "E"}, 1800: {"180", "E"}, -1800: {"180", "W"}, -1: {"0.1", "W"}} {
 		if l, err := Put(api.Rmc{Var: num(v)}); err != 0 || l[9] != want[0] || l[10] != want[1] {
 			t.Error(v, l, err)
@@ -59,7 +62,7 @@ func TestTake(t *testing.T) { // P2603
 		s    string
 		want api.Errno
 	}{
-		{0, "1", api.ErrForm}, {0, "240000", api.ErrRange}, {1, "", api.ErrForm}, {1, "a", api.ErrForm}, {1, "AV", api.ErrForm}, {2, "4860", api.ErrRange}, {3, "", api.ErrForm}, {4, "4804", api.ErrForm}, {5, "S", api.ErrForm}, {6, "10000", api.ErrForm}, {6, "-1", api.ErrRange}, {7, "360.01", api.ErrRange}, {7, "361", api.ErrRange}, {7, "x", api.ErrForm},
+		{0, "1", api.ErrForm}, {0, "240000", api.ErrRange}, {1, "", api.ErrForm}, {1, "a", api.ErrForm}, {1, "AV", api.ErrForm}, {2, "4860", api.ErrRange}, {3, "", api.ErrForm}, {4, "4804", api.ErrForm}, {5, "S", api.ErrForm}, {6, "10000", api.ErrForm}, {6, "-1", api.ErrRange}, {7, "360.01", api.ErrRange}, {7, "361", api.ErrRange}, {7, "x", api.ErrForm}, {7, "1000", api.ErrForm}, {7, "1.234", api.ErrForm}, {6, "1.234", api.ErrForm}, {9, "1000", api.ErrForm},
 		{8, "23039", api.ErrForm}, {8, "320394", api.ErrRange}, {9, "180.1", api.ErrRange}, {9, "-1", api.ErrRange}, {9, "1.23", api.ErrForm}, {9, "", api.ErrForm}, {10, "", api.ErrForm}, {10, "N", api.ErrForm}, {10, "w", api.ErrForm}, {11, "a", api.ErrForm}, {11, "AA", api.ErrForm}, {11, "1", api.ErrForm}, {11, " ", api.ErrForm},
 	} {
 		l := cut(text + ",A")

@@ -24,6 +24,9 @@ func units(n int) []api.Quat {
 }
 
 func TestPack(t *testing.T) { // P1202
+	if Root != 759250125 {
+		t.Error(Root)
+	}
 	if w, ok := Pack(quat.One()); w != 537395712 || !ok {
 		t.Error("example", w)
 	}

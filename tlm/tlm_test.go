@@ -53,11 +53,12 @@ func TestPut(t *testing.T) { // P3202
 	if err != 0 || !bytes.Equal(b, []byte{254, 2, 1, 2, 3, 42, 1, 2, byte(c), byte(c >> 8)}) {
 		t.Error(b, err)
 	}
+	good := api.Msg{Id: 42, V: []int64{5}}
 	for i, c := range []struct {
 		p    api.Packet
 		want api.Errno
 	}{
-		{api.Packet{Seq: -1}, api.ErrArg}, {api.Packet{Seq: 256}, api.ErrArg}, {api.Packet{Sys: -1}, api.ErrArg}, {api.Packet{Sys: 256}, api.ErrArg}, {api.Packet{Comp: -1}, api.ErrArg}, {api.Packet{Comp: 256, Msg: api.Msg{Id: 3}}, api.ErrArg},
+		{api.Packet{Seq: -1, Msg: good}, api.ErrArg}, {api.Packet{Seq: 256, Msg: good}, api.ErrArg}, {api.Packet{Sys: -1, Msg: good}, api.ErrArg}, {api.Packet{Sys: 256, Msg: good}, api.ErrArg}, {api.Packet{Comp: -1, Msg: good}, api.ErrArg}, {api.Packet{Comp: 256, Msg: good}, api.ErrArg}, {api.Packet{Comp: 256, Msg: api.Msg{Id: 3}}, api.ErrArg},
 		{api.Packet{Msg: api.Msg{Id: 3}}, api.ErrKind}, {api.Packet{Msg: api.Msg{Id: 42}}, api.ErrArg}, {api.Packet{Msg: api.Msg{Id: 42, V: []int64{65536}}}, api.ErrRange},
 	} {
 		if b, err := Put(c.p); err != c.want || len(b) != 0 {

@@ -88,6 +88,9 @@ func TestGet(t *testing.T) { // P2002
 			t.Error(key, v)
 		}
 	}
+	if v, ok := Get(api.Valset{L: []api.Pair{{Key: 9, Value: 8}}}, 9); v != 8 || !ok {
+		t.Error("the first one", v)
+	}
 	if v, ok := Get(m, 2); v != 0 || ok {
 		t.Error(v)
 	}

@@ -24,6 +24,9 @@ func TestPut(t *testing.T) { // P2802
 	if l, err := Put(api.Vtg{}); err != 0 || strings.Join(l, ",") != ",,,,,,," {
 		t.Error(l, err)
 	}
+	if l, err := Put(api.Vtg{True: num(5), Knots: num(5), Kmh: num(999999)}); err != 0 || strings.Join(l, ",") != "0.05,T,,,0.05,N,9999.99,K" {
+		t.Error(l, err)
+	}
 	for i, m := range []api.Vtg{{True: num(36001)}, {True: num(-1)}, {Magnetic: num(36001)}, {Magnetic: api.Num{N: 1}}, {Knots: num(1000000)}, {Kmh: num(-1)}, {Kmh: num(1000000)}} {
 		if l, err := Put(m); err != api.ErrRange || len(l) != 0 {
 			t.Error(i, l, err)
